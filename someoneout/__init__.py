@@ -1,0 +1,1 @@
+"""Someoneout: who is left out, and when the till stays empty."""
