@@ -72,3 +72,59 @@ def is_level(size, lots):
         if len({len(part) for part in ended}) > 1:
             return False
     return True
+
+
+def table_by_words(house):
+    """The table with the same free lots."""
+    free = free_lots(house)
+    lots = sorted(lots_of(size_by_words(house)), key=number_of_lot)
+    return ("table", size_by_words(house), tuple(rank_by_free(free, lot) for lot in lots))
+
+
+def worth_by_words(telling, lot):
+    return sum(telling[wish] for wish in lot)
+
+
+def best_lots(free, telling):
+    """The free lots worth most."""
+    most = max(worth_by_words(telling, lot) for lot in free)
+    return [lot for lot in free if worth_by_words(telling, lot) == most]
+
+
+def granted_by_words(free, telling):
+    taken = ()
+    for wish in sorted(range(len(telling)), key=lambda one: (-telling[one], one)):
+        if tuple(sorted(taken + (wish,))) in free:
+            taken = tuple(sorted(taken + (wish,)))
+    return taken
+
+
+def covers_by_free(free, lot, wish):
+    return rank_by_free(free, set(lot) | {wish}) == rank_by_free(free, lot)
+
+
+def gate_by_free(free, telling, wish):
+    """The least of all numbers that could be one; only worths and 0 can be least."""
+    if (wish,) not in free:
+        return None
+    others = [other for other in range(len(telling)) if other != wish]
+    gates = [gate for gate in {0} | {telling[other] for other in others}
+             if not covers_by_free(free, [other for other in others if telling[other] > gate], wish)]
+    return min(gates)
+
+
+def rings_by_free(size, free):
+    """Lots that are not free, while all smaller lots within them are; ascending."""
+    return [lot for lot in lots_of(size) if lot not in free
+            and all(part in free for many in range(len(lot)) for part in combinations(lot, many))]
+
+
+def pieces_by_rings(size, rings):
+    """Wishes put together with all that shares a ring with them, over others or not."""
+    pieces = {wish: {wish} for wish in range(size)}
+    for _ in range(size):
+        for wish in range(size):
+            for ring in rings:
+                if pieces[wish] & set(ring):
+                    pieces[wish] |= set(ring)
+    return tuple(sorted({tuple(sorted(piece)) for piece in pieces.values()}))

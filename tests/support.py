@@ -4,6 +4,7 @@ import random
 import unittest
 
 from someoneout.errors import NotUsable
+from tests.oracles import size_by_words, table_by_words
 
 SEAT = (("limits", 2, (((0, 1), 1),)), 2, (0, 1), ((0, 4), (0, 4)))
 TRIO = (("limits", 3, (((0, 1, 2), 2),)), 3, (0, 1, 2), ((0, 4), (0, 4), (0, 4)))
@@ -88,3 +89,46 @@ def random_houses(seed, many, most=5):
             yield ("beside", tuple(random_plain(dice, dice.randrange(3)) for _ in range(dice.randrange(2, 4))))
         else:
             yield random_plain(dice, dice.randrange(most + 1))
+
+
+def drawn_houses(seed, many, most=5):
+    """Houses of all six words: those above, the samples, houses without wishes, and some as tables."""
+    yield from SAMPLES + EMPTY
+    for at, house in enumerate(random_houses(seed, many, most)):
+        yield table_by_words(house) if at % 6 == 0 else house
+
+
+def drawn_tellings(dice, size, many=2):
+    """All 0, all equal, few worths with many ties, and worths of thirty figures."""
+    yield (0,) * size
+    yield (3,) * size
+    for _ in range(many):
+        yield tuple(dice.randrange(4) for _ in range(size))
+        yield tuple(dice.choice((0, 1, 5, 6, 7, 40)) for _ in range(size))
+    yield tuple(dice.choice((0, 10 ** 29, 10 ** 30 - 1, 10 ** 30)) for _ in range(size))
+
+
+def wrong_tellings(size):
+    """What is no tuple with a number for each of at least one wish."""
+    good = (1,) * (size - 1)
+    odd = [thing for thing in ODD_THINGS if not isinstance(thing, tuple)]
+    shapes = [(), good, good + (1, 1), [1] * size, list(good), "1" * size]
+    return odd + shapes + [good + (thing,) for thing in (True, False, None, -1, "1", (1,), [1])] \
+        + [(thing,) + good for thing in (True, -1, None)]
+
+
+def wrong_wishes(size):
+    """What is no number below size."""
+    return (True, False, None, -1, -size, size, size + 1, "0", "", (), (0,), [0], 10 ** 59)
+
+
+def drawn_circle(dice, house, ends=(0, 1, 3, 4, 9)):
+    """A circle of two to four persons, some perhaps without a wish, in this house."""
+    size = size_by_words(house)
+    people = dice.randrange(2, 5)
+    stretches = tuple(tuple(sorted((dice.choice(ends), dice.choice(ends)))) for _ in range(size))
+    return (house, people, tuple(dice.randrange(people) for _ in range(size)), stretches)
+
+
+def drawn_circle_telling(dice, circle):
+    return tuple(dice.randrange(low, high + 1) for low, high in circle[3])

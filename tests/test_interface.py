@@ -5,7 +5,11 @@ import importlib
 import inspect
 
 from someoneout.circleclasses import Circle
-from tests.support import Case, LIMITS, PAIRS, SEAT, TABLE, TRIO
+from someoneout.grantclasses import Grant
+from tests.support import Case, LIMITS, PAIRS, SEAT, SLOTS, TABLE, TRIO
+
+TOLD = (1, 2, 3, 4, 5, 6)
+LATE = (SEAT[0], 2, (0, 1), ((0, 4), (2, 6)))
 
 INTERFACE = {
     "kinds": ("is_integer(thing)", "is_number(thing)", "is_quotient(thing)", "is_lot(size, thing)",
@@ -25,10 +29,31 @@ INTERFACE = {
     "circlechanges": ("finer(circle, many)", "kept_circle(circle, lot)", "narrowed(circle, wish, low, high)",
                       "beside_circles(circle, other)"),
     "circletexts": ("house_line(house)", "circle_line(circle)", "read_house(text)", "read_circle(text)"),
+    "grants": ("granted(house, telling)", "best_worth(house, telling)", "lot_worth(telling, lot)",
+               "layers_of(house, telling)"),
+    "bestpapers": ("best_paper(house, telling)", "lets_best(house, telling, thing)"),
+    "gates": ("gate_of(house, telling, wish)", "sure_of(house, telling)", "possible_of(house, telling)",
+              "is_best(house, telling, lot)"),
+    "worthchanges": ("put_worth(telling, wish, worth)", "change_of(house, telling, wish, worth)",
+                     "worth_line(house, telling, wish)", "worth_without(house, telling, lot)",
+                     "worth_with(house, telling, lot)"),
+    "heirs": ("heir_of(house, telling, wish)", "heirs_of(house, telling)"),
+    "ringpapers": ("ring_in(house, lot)", "lets_ring(house, lot, thing)"),
+    "seating": ("seated(house, lot)", "lets_seats(house, lot, thing)", "lets_crowd(house, lot, thing)"),
+    "others": ("own_worth(circle, telling, person)", "without_person(circle, telling, person)",
+               "others_lose(circle, telling, person)", "loss_row(circle, telling)", "loss_till(circle, telling)",
+               "gain_by(circle, person, truth, told)"),
+    "rings": ("is_ring(house, thing)", "all_rings(house)", "ring_by(house, lot, wish)", "cut_by(house, base, wish)"),
+    "pieces": ("pieces_of(house)", "is_one_piece(house)", "piece_at(house, wish)", "ring_through(house, one, other)"),
+    "piecepapers": ("lets_parting(house, thing)",),
+    "zones": ("zones_of(circle)", "zone_lots(circle, zone)"),
+    "zonehouses": ("zone_house(circle, zone)", "zone_pieces(circle, zone)"),
 }
 CIRCLE = ("__init__(self, house, people, owners, stretches)", "told(self)", "own(self, person)",
           "leaves_out(self, lot)", "finer(self, many)", "kept(self, lot)", "__add__(self, other)", "__len__(self)",
           "__eq__(self, other)")
+GRANT = ("__init__(self, house, telling)", "lot(self)", "worth(self)", "gate(self, wish)", "heir(self, wish)",
+         "put(self, wish, worth)", "told(self)", "__eq__(self, other)")
 
 CALLS = (
     ("kinds", "is_lot", (4, (1, 2))), ("kinds", "is_order", (3, (2, 0, 1))), ("kinds", "lot_number", ((0, 3),)),
@@ -51,6 +76,26 @@ CALLS = (
     ("circlechanges", "beside_circles", (SEAT, SEAT)), ("circletexts", "house_line", (LIMITS,)),
     ("circletexts", "circle_line", (SEAT,)), ("circletexts", "read_house", ("web 2 ; 0 1",)),
     ("circletexts", "read_circle", ("web 1 ; 0 0 | 2 ; 1 0 4",)),
+    ("grants", "granted", (LIMITS, TOLD)), ("grants", "best_worth", (LIMITS, TOLD)),
+    ("grants", "lot_worth", (TOLD, (0, 3))), ("grants", "layers_of", (LIMITS, TOLD)),
+    ("bestpapers", "best_paper", (LIMITS, TOLD)), ("bestpapers", "lets_best", (SEAT[0], (3, 5), ((1,), (1, 1)))),
+    ("gates", "gate_of", (LIMITS, TOLD, 1)), ("gates", "sure_of", (LIMITS, TOLD)),
+    ("gates", "possible_of", (LIMITS, TOLD)), ("gates", "is_best", (LIMITS, TOLD, (2, 3, 5))),
+    ("worthchanges", "put_worth", (TOLD, 1, 9)), ("worthchanges", "change_of", (LIMITS, TOLD, 1, 9)),
+    ("worthchanges", "worth_line", (LIMITS, TOLD, 1)), ("worthchanges", "worth_without", (LIMITS, TOLD, (2, 4))),
+    ("worthchanges", "worth_with", (LIMITS, TOLD, (0, 5))), ("heirs", "heir_of", (LIMITS, TOLD, 2)),
+    ("heirs", "heirs_of", (LIMITS, TOLD)), ("ringpapers", "ring_in", (LIMITS, (0, 1, 2, 3))),
+    ("ringpapers", "lets_ring", (LIMITS, (0, 1, 4), (0, 1))), ("seating", "seated", (SLOTS, (0, 1, 4))),
+    ("seating", "lets_seats", (SLOTS, (1, 4), ((1, 0), (4, 3)))), ("seating", "lets_crowd", (SLOTS, (0, 1, 3, 5), (3,))),
+    ("others", "own_worth", (TRIO, (1, 3, 1), 1)), ("others", "without_person", (TRIO, (1, 3, 1), 1)),
+    ("others", "others_lose", (TRIO, (1, 3, 1), 1)), ("others", "loss_row", (TRIO, (1, 3, 1))),
+    ("others", "loss_till", (TRIO, (1, 3, 1))), ("others", "gain_by", (TRIO, 1, (1, 3, 1), (1, 0, 1))),
+    ("rings", "is_ring", (LIMITS, [0, [1]])), ("rings", "is_ring", (LIMITS, (0, 1))), ("rings", "all_rings", (LIMITS,)),
+    ("rings", "ring_by", (LIMITS, (0, 2), 3)), ("rings", "cut_by", (LIMITS, (0, 2, 5), 2)),
+    ("pieces", "pieces_of", (LIMITS,)), ("pieces", "is_one_piece", (LIMITS,)), ("pieces", "piece_at", (LIMITS, 2)),
+    ("pieces", "ring_through", (LIMITS, 3, 0)), ("piecepapers", "lets_parting", (SEAT[0], ((0, 1),))),
+    ("zones", "zones_of", (LATE,)), ("zones", "zone_lots", (LATE, (2, 4))),
+    ("zonehouses", "zone_house", (LATE, (2, 4))), ("zonehouses", "zone_pieces", (LATE, (2, 4))),
 )
 
 
@@ -67,10 +112,11 @@ class Interface(Case):
                 self.assertEqual(function.__module__, "someoneout." + file)
 
     def test_classes(self):
-        self.assertEqual(Circle.__module__, "someoneout.circleclasses")
-        for call in CIRCLE:
-            method = vars(Circle)[call.split("(")[0]]
-            self.assertEqual(method.__name__ + str(inspect.signature(method)), call)
+        for made, file, calls in ((Circle, "circleclasses", CIRCLE), (Grant, "grantclasses", GRANT)):
+            self.assertEqual(made.__module__, "someoneout." + file)
+            for call in calls:
+                method = vars(made)[call.split("(")[0]]
+                self.assertEqual(method.__name__ + str(inspect.signature(method)), call)
 
     def test_arguments_stay_and_answers_too(self):
         for file, name, arguments in CALLS:

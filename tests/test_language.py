@@ -129,6 +129,26 @@ class Language(unittest.TestCase):
                 if isinstance(node, ast.Call) and isinstance(node.func, ast.Attribute):
                     self.assertIn(node.func.attr, METHODS | own, path)
 
+    def test_iterated_at_once(self):
+        # A range or a view is gone through where it stands, and passed to builtins that do so only.
+        takers = {"list", "tuple", "dict", "sorted", "sum", "any", "all", "enumerate", "zip", "min", "max"}
+        for path, _, tree in trees():
+            fine = set()
+            for node in ast.walk(tree):
+                if isinstance(node, (ast.For, ast.comprehension)):
+                    fine.add(id(node.iter))
+                if isinstance(node, ast.Call) and isinstance(node.func, ast.Name) and node.func.id in takers:
+                    fine.update(id(argument) for argument in node.args)
+                if isinstance(node, ast.Call) and isinstance(node.func, ast.Name) and node.func.id == "reversed":
+                    self.assertNotIsInstance(node.args[0], ast.Call, path)
+                if isinstance(node, ast.Assign) and ast.unparse(node.value).startswith("range("):
+                    fine.add(id(node.value))
+            for node in ast.walk(tree):
+                if isinstance(node, ast.Call):
+                    called = node.func.id if isinstance(node.func, ast.Name) else node.func.attr
+                    if called in ("range", "zip", "enumerate", "reversed", "items", "keys", "values"):
+                        self.assertIn(id(node), fine, (path, node.lineno))
+
     def test_words(self):
         for path, _, tree in trees():
             texts = set(docstrings(tree))
