@@ -53,3 +53,15 @@ def worth_of(telling, lot):
 def without_lot(telling, lot):
     """All wishes that are told, but those of the lot."""
     return tuple([wish for wish in range(len(telling)) if wish not in lot])
+
+
+def worth_by_ranks(ranks, telling):
+    """The best worth, ranks being those of all lots by their numbers."""
+    worth = 0
+    number = 0
+    for fall, wish in sorted([(-telling[wish], wish) for wish in range(len(telling))]):
+        more = number + (1 << wish)
+        # A wish is granted if those before it, granted or not, do not cover it.
+        worth = worth - fall * (ranks[more] - ranks[number])
+        number = more
+    return worth

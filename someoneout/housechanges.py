@@ -3,6 +3,7 @@
 from someoneout.demands import need
 from someoneout.houses import size_of
 from someoneout.kinds import is_lot, is_order, lot_by, lot_number, lots_within
+from someoneout.rankrules import lot_rank
 from someoneout.ranks import rank_table
 
 
@@ -21,33 +22,30 @@ def numbers_within(lot):
     return [lot_number(part) for part in lots_within(lot)]
 
 
-def kept_table(house, lot):
-    """The table of the house kept to what is known to be a lot."""
+def left_table(house, promised, left):
+    """The table of the wishes of the lot left, a free lot of other ones being promised."""
     ranks = rank_table(house)
-    return ("table", len(lot), tuple([ranks[number] for number in numbers_within(lot)]))
+    before = lot_number(promised)
+    more = [ranks[number + before] - ranks[before] for number in numbers_within(left)]
+    return ("table", len(left), tuple(more))
 
 
 def refused_house(house, lot):
     """The house kept to all wishes that are not in the lot."""
     need(is_lot(size_of(house), lot), "lot")
-    return kept_table(house, others_than(house, lot))
+    return left_table(house, (), others_than(house, lot))
 
 
 def kept_house(house, lot):
     """The house that has just the wishes of the lot."""
     need(is_lot(size_of(house), lot), "lot")
-    return kept_table(house, lot)
+    return left_table(house, (), lot)
 
 
 def promised_house(house, lot):
     """The house of the other wishes, the free lot being granted in any case."""
-    need(is_lot(size_of(house), lot), "lot")
-    ranks = rank_table(house)
-    promised = lot_number(lot)
-    need(ranks[promised] == len(lot), "lot")
-    others = others_than(house, lot)
-    left = [ranks[number + promised] - len(lot) for number in numbers_within(others)]
-    return ("table", len(others), tuple(left))
+    need(is_lot(size_of(house), lot) and lot_rank(house, lot) == len(lot), "lot")
+    return left_table(house, lot, others_than(house, lot))
 
 
 def renamed_house(house, order):

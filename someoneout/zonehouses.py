@@ -10,10 +10,13 @@ def zone_house(circle, zone):
     """The table house of the open wishes, numbered anew."""
     # This refuses what is no zone, too.
     above, _, between = zone_lots(circle, zone)
-    house = circle[0]
+    return ("table", len(between), tuple(ranks_behind(circle[0], above, lots_within(between))))
+
+
+def ranks_behind(house, above, lots):
+    """What each of the lots adds to the rank of one that has none of their wishes."""
     least = lot_rank(house, above)
-    ranks = [lot_rank(house, tuple(sorted(part + above))) - least for part in lots_within(between)]
-    return ("table", len(between), tuple(ranks))
+    return [lot_rank(house, tuple(sorted(lot + above))) - least for lot in lots]
 
 
 def zone_pieces(circle, zone):

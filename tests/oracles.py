@@ -1,5 +1,6 @@
 """Free lots and all that hangs on them, straight from the definitions, slowly."""
 
+from fractions import Fraction
 from itertools import combinations, permutations, product
 
 
@@ -128,3 +129,202 @@ def pieces_by_rings(size, rings):
                 if pieces[wish] & set(ring):
                     pieces[wish] |= set(ring)
     return tuple(sorted({tuple(sorted(piece)) for piece in pieces.values()}))
+
+
+def sign_of(many):
+    return -1 if many % 2 else 1
+
+
+def cut_by_free(size, free, base, wish):
+    """All wishes that can be put in the place of the wish so that there is a base again."""
+    bases = bases_by_free(free)
+    rest = set(base) - {wish}
+    return [other for other in range(size) if tuple(sorted(rest | {other})) in bases]
+
+
+def ring_by_free(size, free, lot, wish):
+    """The one ring within the lot and the wish together."""
+    both = set(lot) | {wish}
+    return [ring for ring in rings_by_free(size, free) if set(ring) <= both][0]
+
+
+def zones_by_words(circle):
+    ends = sorted({end for stretch in circle[3] for end in stretch})
+    return list(zip(ends, ends[1:]))
+
+
+def zone_parts_by_words(circle, zone):
+    """The high wishes and the open ones."""
+    s, t = zone
+    high = [wish for wish, (low, _) in enumerate(circle[3]) if low >= t]
+    between = [wish for wish, (low, top) in enumerate(circle[3]) if low < t and top > s]
+    return high, between
+
+
+def zone_ranks_by_words(circle, zone):
+    """A function that tells the rank of a lot of open wishes in the zone house."""
+    ranks = table_by_words(circle[0])[2]
+    high, _ = zone_parts_by_words(circle, zone)
+    above = number_of_lot(high)
+    return lambda lot: ranks[above + number_of_lot(lot)] - ranks[above]
+
+
+def zone_pieces_by_words(circle, zone):
+    """The pieces of the zone house by all its rings, told by the numbers of the circle."""
+    rank = zone_ranks_by_words(circle, zone)
+    _, between = zone_parts_by_words(circle, zone)
+    many = len(between)
+    free = [lot for lot in lots_of(many) if rank([between[at] for at in lot]) == len(lot)]
+    pieces = pieces_by_rings(many, rings_by_free(many, free))
+    return [tuple(between[at] for at in piece) for piece in pieces]
+
+
+def is_full_by_words(circle, lot):
+    return {circle[2][wish] for wish in lot} == set(range(circle[1]))
+
+
+def full_zones_by_words(circle):
+    return tuple((zone, piece) for zone in zones_by_words(circle) for piece in zone_pieces_by_words(circle, zone)
+                 if is_full_by_words(circle, piece))
+
+
+def best_by_words(free, telling):
+    return max(worth_by_words(telling, lot) for lot in free)
+
+
+def cube_by_words(circle, here, there):
+    """The mixed difference of the best worth, lot of persons by lot."""
+    free = free_lots(circle[0])
+    total = 0
+    for lot in lots_of(circle[1]):
+        telling = [there[wish] if owner in lot else here[wish] for wish, owner in enumerate(circle[2])]
+        total += sign_of(circle[1] - len(lot)) * best_by_words(free, telling)
+    return total
+
+
+def end_tellings_by_words(circle):
+    ends = sorted({end for stretch in circle[3] for end in stretch})
+    return list(product(*[[end for end in ends if low <= end <= high] for low, high in circle[3]]))
+
+
+def signed_by_words(ranks):
+    """The signed sum by the ranks of all lots, by their numbers."""
+    return sum(sign_of(bin(number).count("1")) * rank for number, rank in enumerate(ranks))
+
+
+def kept_ranks(ranks, lot):
+    """The ranks of the lots within the lot, as if it were kept."""
+    lots = sorted(lots_of(len(lot)), key=number_of_lot)
+    return [ranks[sum(2 ** lot[at] for at in part)] for part in lots]
+
+
+def left_ranks(ranks, promised, left):
+    """The ranks of the lots within left, if the free lot promised is granted in any case."""
+    before = number_of_lot(promised)
+    lots = sorted(lots_of(len(left)), key=number_of_lot)
+    return [ranks[before + sum(2 ** left[at] for at in part)] - len(promised) for part in lots]
+
+
+def free_by_ranks(ranks):
+    size = len(ranks).bit_length() - 1
+    return [lot for lot in lots_of(size) if ranks[number_of_lot(lot)] == len(lot)]
+
+
+def pieces_by_ranks(ranks):
+    size = len(ranks).bit_length() - 1
+    return pieces_by_rings(size, rings_by_free(size, free_by_ranks(ranks)))
+
+
+def fraction_of(quotient):
+    return Fraction(quotient[0], quotient[1])
+
+
+def quotient_by(fraction):
+    return (fraction.numerator, fraction.denominator)
+
+
+def places_by_words(counts):
+    return list(product(*[range(count) for count in counts]))
+
+
+def others_at(place, person):
+    return place[:person] + place[person + 1:]
+
+
+def choices_by_words(counts, person):
+    return list(product(*[range(count) for at, count in enumerate(counts) if at != person]))
+
+
+def worths_by_place(board):
+    return dict(zip(places_by_words(board[0]), board[1]))
+
+
+def mixed_by_words(board, here, there):
+    worths = worths_by_place(board)
+    people = len(board[0])
+    return sum(sign_of(people - len(lot)) * worths[tuple(there[i] if i in lot else here[i] for i in range(people))]
+               for lot in lots_of(people))
+
+
+def dues_by_words(board, tables, place):
+    """The dues at the place, as fractions."""
+    return [fraction_of(tables[person][choices_by_words(board[0], person).index(others_at(place, person))])
+            for person in range(len(board[0]))]
+
+
+def tills_by_words(board, tables):
+    worths = worths_by_place(board)
+    choices = [{choice: at for at, choice in enumerate(choices_by_words(board[0], person))}
+               for person in range(len(board[0]))]
+    return [sum(fraction_of(tables[i][choices[i][others_at(place, i)]]) for i in range(len(tables)))
+            - (len(tables) - 1) * worth for place, worth in worths.items()]
+
+
+def span_by_words(board, tables):
+    tills = tills_by_words(board, tables)
+    return max(tills) - min(tills)
+
+
+def choice_sums_by_words(board, person, weights):
+    sums = {choice: Fraction(0) for choice in choices_by_words(board[0], person)}
+    for place, weight in zip(places_by_words(board[0]), weights):
+        sums[others_at(place, person)] += weight
+    return sums
+
+
+def rows_by_words(circle, person):
+    """All rows of the person in end tellings, ascending."""
+    own = [wish for wish, owner in enumerate(circle[2]) if owner == person]
+    return sorted({tuple(telling[wish] for wish in own) for telling in end_tellings_by_words(circle)})
+
+
+def telling_by_words(circle, place):
+    """The end telling for which the place stands."""
+    telling = [None] * len(circle[2])
+    for person, at in enumerate(place):
+        own = [wish for wish, owner in enumerate(circle[2]) if owner == person]
+        for wish, worth in zip(own, rows_by_words(circle, person)[at]):
+            telling[wish] = worth
+    return tuple(telling)
+
+
+def board_by_words(circle):
+    counts = tuple(len(rows_by_words(circle, person)) for person in range(circle[1]))
+    free = free_lots(circle[0])
+    return counts, tuple(best_by_words(free, telling_by_words(circle, place)) for place in places_by_words(counts))
+
+
+def mixture_by_words(circle, telling):
+    """For each stretch of cuts from 1 down, the end telling that comes at its middle, and its length."""
+    ends = sorted({end for stretch in circle[3] for end in stretch})
+    ways = []
+    for worth in telling:
+        s = max(end for end in ends if end <= worth)
+        t = min(end for end in ends if end >= worth)
+        ways.append((s, t, Fraction(worth - s, t - s) if t > s else Fraction(0)))
+    steps = sorted({Fraction(0), Fraction(1)} | {lift for _, _, lift in ways}, reverse=True)
+    pairs = []
+    for top, low in zip(steps, steps[1:]):
+        cut = (top + low) / 2
+        pairs.append((tuple(t if lift >= cut else s for s, t, lift in ways), quotient_by(top - low)))
+    return tuple(pairs)

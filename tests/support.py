@@ -2,8 +2,10 @@
 
 import random
 import unittest
+from itertools import product
+from math import gcd, prod
 
-from someoneout.errors import NotUsable
+from someoneout.errors import InvalidPaper, NotUsable
 from tests.oracles import size_by_words, table_by_words
 
 SEAT = (("limits", 2, (((0, 1), 1),)), 2, (0, 1), ((0, 4), (0, 4)))
@@ -41,6 +43,9 @@ class Case(unittest.TestCase):
 
     def not_usable(self, word, function, *args, **named):
         self.refused(NotUsable, {"word": word, "at": -1}, function, *args, **named)
+
+    def wrong_paper(self, word, at, function, *args):
+        self.refused(InvalidPaper, {"word": word, "at": at}, function, *args)
 
 
 def random_lot(dice, size):
@@ -132,3 +137,121 @@ def drawn_circle(dice, house, ends=(0, 1, 3, 4, 9)):
 
 def drawn_circle_telling(dice, circle):
     return tuple(dice.randrange(low, high + 1) for low, high in circle[3])
+
+
+TIED = (("limits", 2, (((0, 1), 1),)), ("limits", 3, (((0, 1, 2), 2),)), ("limits", 4, (((0, 1, 2, 3), 2), ((0, 1), 1))),
+        ("limits", 5, (((0, 1, 2, 3, 4), 3), ((1, 3), 1))), ("slots", 2, ((0, 1), (0, 1), (0,), (1,))),
+        ("slots", 3, ((0, 1), (1, 2), (0, 2), (0, 1, 2))), ("web", 3, ((0, 1), (1, 2), (0, 2), (0, 2))),
+        ("web", 4, ((0, 1), (1, 2), (2, 3), (0, 3), (0, 2))), ("rows", 3, ((1, 0), (0, 1), (1, 1), (1, 2))),
+        ("rows", 2, ((1, 0, 0), (0, 1, 0), (0, 0, 1), (1, 1, 0), (0, 1, 1), (1, 1, 1))),
+        ("table", 3, (0, 1, 1, 1, 1, 1, 1, 1)), ("table", 4, (0, 1, 1, 1, 1, 2, 2, 2, 1, 2, 2, 2, 2, 2, 2, 2)),
+        ("beside", (("limits", 2, (((0, 1), 1),)), ("web", 2, ((0, 1), (0, 1))))),
+        ("beside", (("limits", 3, (((0, 1, 2), 1),)), ("rows", 5, ((2,), (3,))))))
+
+
+def drawn_circles(seed, many, most=5, ends=(0, 1, 3, 4, 9)):
+    """Circles of two to five persons in houses of all six words; many are in few pieces, some have two ends or one."""
+    dice = random.Random(seed)
+    for at, house in enumerate(drawn_houses(seed, many, most)):
+        if at % 2 == 1:
+            house = dice.choice(TIED)
+        house, people, owners, stretches = drawn_circle(dice, house, ends)
+        if at % 9 == 3:
+            people = 5
+        elif at % 3 > 0:
+            people = dice.choice((2, 2, 3))
+        owners = tuple(dice.randrange(people) for _ in owners)
+        if at % 4 == 1:
+            low = dice.choice(ends)
+            stretches = ((low, low + dice.choice((0, 1, 10 ** 29))),) * len(owners)
+        yield (house, people, owners, stretches)
+
+
+def wrong_lots(size):
+    """What is no lot of numbers below size."""
+    return ODD_THINGS + ((size,), (0, size), (1, 0), (2, 1, 0), [0, 1], (0, True), (False, 1), "01", {0: 1})
+
+
+def wrong_persons(people):
+    """What is no person of so many."""
+    return (True, False, None, -1, people, people + 1, "0", (), (0,), [0], 10 ** 59)
+
+
+# What is no quotient: not in least terms, a bottom below 1, or no pair of integers.
+WRONG_QUOTIENTS = ((2, 4), (0, 2), (1, 0), (0, 0), (1, -1), (-2, -1), [1, 2], (1,), (1, 2, 3), 1, 0, True, None, "12",
+                   (True, 1), (1, True), (False, 1), (1, None), ((1, 1), 1), (3, 3))
+
+
+
+def shapes_of(most, people=5):
+    """All counts of two persons or more, up to so many, with up to most places."""
+    found = []
+    waiting = [(count,) for count in range(1, most + 1)]
+    while waiting:
+        counts = waiting.pop()
+        if len(counts) > 1:
+            found.append(counts)
+        if len(counts) < people:
+            waiting.extend(counts + (count,) for count in range(1, most // prod(counts) + 1))
+    return sorted(found)
+
+
+WIDE = ((4, 6), (6, 4), (2, 3, 4), (4, 3, 2), (3, 4, 2), (2, 2, 2, 3), (3, 2, 2, 2), (2, 3, 2, 2), (2, 12), (8, 3),
+        (3, 3, 2), (4, 4), (5, 4), (2, 2, 2, 2), (2, 2, 6), (3, 3), (2, 2), (2, 2, 2), (2, 1, 2, 3), (2, 2, 2, 3, 1))
+
+
+def even_worths(dice, counts, size):
+    """Worths that are sums of functions blind to one person, drawn from numbers below size."""
+    parts = []
+    for person in range(len(counts)):
+        choices = product(*[range(count) for at, count in enumerate(counts) if at != person])
+        parts.append({choice: dice.randrange(-size, size) for choice in choices})
+    return [sum(part[place[:at] + place[at + 1:]] for at, part in enumerate(parts))
+            for place in product(*[range(count) for count in counts])]
+
+
+def drawn_worths(dice, counts, kind):
+    """Worths of one of eight kinds for a board with these counts."""
+    many = prod(counts)
+    if kind == 0:
+        return [dice.randrange(-50, 50) for _ in range(many)]
+    if kind == 1:
+        return even_worths(dice, counts, 20)
+    if kind == 2:
+        return [worth + (dice.random() < 0.2) for worth in even_worths(dice, counts, 9)]
+    if kind == 3:
+        return [dice.choice((0, 0, 0, 1)) for _ in range(many)]
+    if kind == 4:
+        return [dice.randrange(-10 ** 30, 10 ** 30) for _ in range(many)]
+    if kind == 5:
+        return [dice.choice((-10 ** 40, 0, 10 ** 40)) for _ in range(many)]
+    if kind == 6:
+        return sorted(dice.randrange(9) for _ in range(many))
+    return even_worths(dice, counts, 10 ** 29)
+
+
+def drawn_boards(seed, many, shapes=WIDE):
+    """Boards of these counts by turns, with worths of all kinds."""
+    dice = random.Random(seed)
+    for at in range(many):
+        counts = shapes[at % len(shapes)]
+        yield (counts, tuple(drawn_worths(dice, counts, dice.randrange(8))))
+
+
+def drawn_quotient(dice):
+    top, bottom = dice.choice(((dice.randrange(-9, 10), dice.randrange(1, 9)), (dice.randrange(-10 ** 40, 10 ** 40),
+                              dice.randrange(1, 10 ** 40)), (0, 1), (1, 2)))
+    return (top // gcd(top, bottom), bottom // gcd(top, bottom))
+
+
+def drawn_tables(dice, counts):
+    return tuple(tuple(drawn_quotient(dice) for _ in range(prod(counts) // count)) for count in counts)
+
+
+def wrong_tables(counts):
+    """What are no tables of boards with these counts, which have one person with a choice at least."""
+    good = tuple(((1, 2),) * (prod(counts) // count) for count in counts)
+    odd = tuple(thing for thing in ODD_THINGS if thing != good)
+    more = (good[:-1], good + (good[0],), list(good), good[:-1] + (list(good[-1]),), good[:-1] + (good[-1] + ((1, 2),),),
+            good[:-1] + (good[-1][:-1],), (((1, 2),),) + good)
+    return odd + more + tuple(good[:-1] + (good[-1][:-1] + (thing,),) for thing in WRONG_QUOTIENTS)
