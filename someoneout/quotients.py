@@ -1,6 +1,6 @@
 """Reckoning with quotients."""
 
-from math import gcd
+from math import gcd, lcm
 
 from someoneout.demands import need
 from someoneout.kinds import is_integer, is_quotient
@@ -55,4 +55,35 @@ def over(one, other):
 def less(one, other):
     """Whether one is less than other."""
     need_both(one, other)
+    return is_less(one, other)
+
+
+def added(quotients):
+    """The sum of what are known to be pairs of tops and bottoms, in least terms or not."""
+    common = 1
+    for _, bottom in quotients:
+        common = lcm(common, bottom)
+    return reduced(sum([top * (common // bottom) for top, bottom in quotients]), common)
+
+
+def is_less(one, other):
+    """Whether one of two known quotients is less than the other."""
     return one[0] * other[1] < other[0] * one[1]
+
+
+def greatest_of(quotients):
+    """The greatest of known quotients, of which there is one."""
+    greatest = quotients[0]
+    for quotient in quotients:
+        if is_less(greatest, quotient):
+            greatest = quotient
+    return greatest
+
+
+def least_of(quotients):
+    """The least of known quotients, of which there is one."""
+    least = quotients[0]
+    for quotient in quotients:
+        if is_less(quotient, least):
+            least = quotient
+    return least

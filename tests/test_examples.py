@@ -1,32 +1,13 @@
 """The examples of the document, word for word."""
 
+import importlib
+import pathlib
+
 from someoneout import errors
-from someoneout.bestpapers import best_paper, lets_best
-from someoneout.circletexts import circle_line, house_line, read_house
-from someoneout.families import house_by_lots, level_fault
-from someoneout.gates import gate_of, is_best, possible_of, sure_of
-from someoneout.grantclasses import Grant
-from someoneout.grants import best_worth, granted, layers_of, lot_worth
-from someoneout.heirs import heir_of, heirs_of
-from someoneout.housechanges import promised_house
-from someoneout.housechecker import lets_house
-from someoneout.kinds import is_quotient, lot_number, lots_within
-from someoneout.others import gain_by, loss_row, own_worth, without_person
-from someoneout.piecepapers import lets_parting
-from someoneout.pieces import pieces_of, ring_through
-from someoneout.ringpapers import lets_ring, ring_in
-from someoneout.rings import all_rings, cut_by, ring_by
-from someoneout.seating import lets_crowd, lets_seats, seated
-from someoneout.worthchanges import change_of, put_worth, worth_line, worth_with, worth_without
-from someoneout.zonehouses import zone_house, zone_pieces
-from someoneout.zones import zone_lots, zones_of
 from tests.support import Case
 
-NAMES = (circle_line, house_by_lots, house_line, is_quotient, level_fault, lets_house, lot_number, lots_within,
-         promised_house, read_house, best_paper, lets_best, gate_of, is_best, possible_of, sure_of, Grant, best_worth,
-         granted, layers_of, lot_worth, heir_of, heirs_of, gain_by, loss_row, own_worth, without_person, lets_parting,
-         pieces_of, ring_through, lets_ring, ring_in, all_rings, cut_by, ring_by, lets_crowd, lets_seats, seated,
-         change_of, put_worth, worth_line, worth_with, worth_without, zone_house, zone_pieces, zone_lots, zones_of)
+FOLDER = pathlib.Path(__file__).resolve().parent.parent / "someoneout"
+
 
 EXAMPLES = """
     >>> SEAT = (("limits", 2, (((0, 1), 1),)), 2, (0, 1), ((0, 4), (0, 4)))
@@ -113,6 +94,91 @@ EXAMPLES = """
 
     >>> zone_house(LATE, (0, 2)), zone_pieces(LATE, (2, 4))
     (('table', 1, (0, 0)), ((0, 1),))
+
+    >>> full_zones(LATE), stays(LATE)
+    ((((2, 4), (0, 1)),), False)
+    >>> APART = (("limits", 2, (((0, 1), 1),)), 2, (0, 1), ((0, 4), (4, 9)))
+    >>> full_pieces(APART), stays(APART)
+    (((0, 1),), True)
+    >>> lets_stay(APART, ((((0,), 1),), (((1,), 0),)))
+    2
+    >>> cube_difference(SEAT, (0, 0), (4, 4)), lets_break(TRIO, ((0, 0, 0), (4, 4, 4)))
+    (-4, -4)
+    >>> carved(TRIO[0], (0, 2)), carved(TRIO[0], (0, 1, 2))
+    (((1,), ()), ((), ()))
+    >>> binding_limits(("limits", 4, (((0, 1, 2), 2), ((0, 1), 1), ((3,), 0))))
+    ((0, 1),)
+    >>> Parted(SEAT).zones()
+    (((0, 4), ((0, 1),)),)
+    >>> signed_sum(TRIO[0]), number_of(PAIRS[0])
+    (1, 0)
+    >>> number_in(PAIRS[0], (0, 1)), number_in(PAIRS[0], (0, 2))
+    (1, 0)
+    >>> taken_apart(TRIO[0], 0)
+    (0, 1)
+    >>> piece_numbers(PAIRS[0])
+    (((0, 1), 1), ((2, 3), 1))
+    >>> inner_least(TRIO[0], (0, 1, 2), (0, 1)), outer_least(TRIO[0], (0, 1, 2), (1, 2))
+    ((0, 1), (0,))
+    >>> lean_bases(TRIO[0], (0, 1, 2))
+    ((0, 2),)
+    >>> spread_of(TRIO[0], (0, 1, 2))
+    ((0, 1, 1), (1, 0, 1), (2, 0, 1))
+    >>> lets_lean(TRIO[0], (0, 1, 2), (0, 2))
+    0
+    >>> signed_ranks(TRIO[0]), limits_signed(PAIRS[0])
+    ((1, -3, 2), (1, -2, 1))
+    >>> limits_number(TRIO[0]), seats_number(1, 3), seats_number(4, 2), seats_number(4, 4)
+    (1, 1, 2, 0)
+    >>> twin_lots(PAIRS[0]), partner_lots(TRIO[0])
+    (((0, 1), (2, 3)), ((0, 1, 2),))
+    >>> twins_refused(PAIRS[0]), partners_promised(TRIO[0])
+    (('table', 2, (0, 1, 1, 2)), ('table', 1, (0, 0)))
+    >>> term_of(TRIO[0], (0, 1))
+    0
+    >>> least_terms(TRIO[0])
+    (((0,), 1), ((0, 1, 2), -1), ((1,), 1), ((2,), 1))
+    >>> worth_by_terms(least_terms(TRIO[0]), (5, 3, 1))
+    8
+    >>> ranks_by_terms(2, (((0,), 1), ((1,), 1), ((0, 1), -1)))
+    (0, 1, 1, 1)
+    >>> lets_terms(SEAT[0], (((0,), 1), ((0, 1), -1), ((1,), 1)))
+    3
+    >>> corner_difference(SEAT[0], (1, 3), (4, 2)), level_difference(TRIO[0], 1, 3)
+    (1, -2)
+    >>> Number(TRIO[0]).turned().told()
+    ('table', 3, (0, 1, 1, 1, 1, 1, 1, 1))
+    >>> LATER = (("limits", 2, ()), 2, (1, 1), ((0, 3), (3, 5)))
+    >>> end_rows(LATER, 1), place_of(LATER, (3, 3)), board_of(SEAT)
+    (((0, 3), (0, 5), (3, 3), (3, 5)), (0, 2), ((2, 2), (0, 4, 4, 4)))
+    >>> mixed_at(board_of(SEAT), (0, 0), (1, 1))
+    -4
+    >>> DUES = (((1, 1), (3, 1)), ((1, 1), (3, 1)))
+    >>> till_row(board_of(SEAT), DUES), till_span(board_of(SEAT), DUES)
+    (((2, 1), (0, 1), (0, 1), (2, 1)), (2, 1))
+    >>> FIRST, SECOND = ((0, 1), (1, 2), (1, 2), (0, 1)), ((1, 2), (0, 1), (0, 1), (1, 2))
+    >>> lets_span(board_of(SEAT), (DUES, FIRST, SECOND))
+    (2, 1)
+    >>> COURT = (("limits", 4, (((0, 1, 2, 3), 2),)), 2, (0, 0, 1, 1), ((0, 1),) * 4)
+    >>> piece_spans(COURT), single_of(COURT, (0, 1, 2, 3)), circle_span(TRIO)
+    ((((0, 1, 2, 3), (1, 1)),), None, (2, 1))
+    >>> SECONDS = (((0, 1), (4, 1)), ((0, 1), (4, 1)))
+    >>> lets_hold(SEAT, (SECONDS, ((0, 1), (0, 1), (0, 1), (1, 1)), ((0, 1), (1, 1), (1, 1), (0, 1))))
+    (4, 1)
+    >>> least_hold((("limits", 3, (((0, 1, 2), 1),)), 3, (0, 1, 2), ((0, 1),) * 3))
+    (2, 3)
+    >>> TABLES = (((1, 1), (3, 1)), ((1, 1), (3, 1)))
+    >>> WATCH = (SEAT[0], 3, (0, 1), SEAT[3])
+    >>> mixture_of(SEAT, (1, 3))
+    (((0, 0), (1, 4)), ((0, 4), (1, 2)), ((4, 4), (1, 4)))
+    >>> mean_over(SEAT, ((0, 1), (4, 1), (4, 1), (4, 1)), (1, 3))
+    (3, 1)
+    >>> dues_at(SEAT, TABLES, (1, 3))
+    ((5, 2), (3, 2))
+    >>> payments_at(SEAT, TABLES, (1, 3))
+    ((-1, 2), (3, 2))
+    >>> rule_till(SEAT, TABLES, (1, 3))
+    (1, 1)
 """
 
 
@@ -125,9 +191,19 @@ def cases():
             yield line[4:], lines[at + 1] if answered else None
 
 
+def all_names():
+    """All functions and classes of the package by their names, each from the file that defines it."""
+    names = {}
+    for path in sorted(FOLDER.glob("*.py")):
+        module = importlib.import_module("someoneout." + path.stem)
+        names.update((name, thing) for name, thing in vars(module).items()
+                     if getattr(thing, "__module__", None) == module.__name__)
+    return names
+
+
 class Examples(Case):
     def test_examples(self):
-        names = {function.__name__: function for function in NAMES}
+        names = all_names()
         many = 0
         for asked, answer in cases():
             with self.subTest(asked):
@@ -140,4 +216,4 @@ class Examples(Case):
                 else:
                     self.exact(eval(asked, names), eval(answer))
                     many += 1
-        self.assertEqual(many, 28)
+        self.assertEqual(many, 66)

@@ -4,12 +4,21 @@ import copy
 import importlib
 import inspect
 
+from someoneout.boardclasses import Board
 from someoneout.circleclasses import Circle
 from someoneout.grantclasses import Grant
+from someoneout.numberclasses import Number
+from someoneout.partclasses import Parted
 from tests.support import Case, LIMITS, PAIRS, SEAT, SLOTS, TABLE, TRIO
 
 TOLD = (1, 2, 3, 4, 5, 6)
 LATE = (SEAT[0], 2, (0, 1), ((0, 4), (2, 6)))
+ORDER = (2, 0, 1)
+TERMS = (((0,), 1), ((0, 1), -1), ((1,), 1))
+BOARD_SEAT = ((2, 2), (0, 4, 4, 4))
+DUES = (((1, 1), (3, 1)), ((1, 1), (3, 1)))
+SHARES = ((0, 1), (1, 2), (1, 2), (0, 1))
+HOLD = ((((0, 1), (4, 1)), ((0, 1), (4, 1))), ((0, 1), (0, 1), (0, 1), (1, 1)), ((0, 1), (1, 1), (1, 1), (0, 1)))
 
 INTERFACE = {
     "kinds": ("is_integer(thing)", "is_number(thing)", "is_quotient(thing)", "is_lot(size, thing)",
@@ -48,12 +57,51 @@ INTERFACE = {
     "piecepapers": ("lets_parting(house, thing)",),
     "zones": ("zones_of(circle)", "zone_lots(circle, zone)"),
     "zonehouses": ("zone_house(circle, zone)", "zone_pieces(circle, zone)"),
+    "leavings": ("full_pieces(circle)", "full_zones(circle)", "stays(circle)"),
+    "staypapers": ("stay_paper(circle)", "lets_stay(circle, thing)"),
+    "breakpapers": ("break_paper(circle)", "cube_difference(circle, here, there)", "lets_break(circle, thing)"),
+    "carving": ("carved(house, lot)", "lets_carving(house, lot, thing)"),
+    "limitpieces": ("binding_limits(house)", "limit_pieces(house)", "limits_stay(house, people, owners)"),
+    "sums": ("signed_sum(house)", "number_of(house)", "number_in(house, lot)"),
+    "takings": ("taken_apart(house, wish)", "piece_numbers(house)"),
+    "leans": ("inner_least(house, order, base)", "outer_least(house, order, base)", "lean_bases(house, order)",
+              "spread_of(house, order)", "lets_lean(house, order, thing)"),
+    "limitruns": ("signed_ranks(house)", "limits_signed(house)", "limits_number(house)", "seats_number(size, seats)"),
+    "reductions": ("twin_lots(house)", "partner_lots(house)", "twins_refused(house)", "partners_promised(house)"),
+    "leasts": ("term_of(house, lot)", "least_terms(house)", "ranks_by_terms(size, terms)",
+               "worth_by_terms(terms, telling)"),
+    "termpapers": ("lets_terms(house, thing)",),
+    "corners": ("corner_difference(house, here, there)", "level_difference(house, low, high)"),
+    "boards": ("is_board(thing)", "places_of(board)", "worth_at(board, place)", "others_of(board, person)"),
+    "boardchecker": ("lets_board(thing)",),
+    "endboards": ("end_rows(circle, person)", "board_of(circle)", "place_of(circle, telling)",
+                  "telling_at(circle, place)"),
+    "mixed": ("mixed_at(board, here, there)", "uneven_place(board)"),
+    "tables": ("is_tables(board, thing)", "dues_of(board, tables, place)", "till_row(board, tables)",
+               "till_span(board, tables)"),
+    "tablesums": ("tables_plus(board, tables, other)", "tables_times(board, tables, quotient)", "flat_tables(board)"),
+    "spanpapers": ("least_span(board)", "span_paper(board)", "lets_span(board, thing)"),
+    "walks": ("best_walk(board)", "lets_walk(board, thing)"),
+    "circlespans": ("single_of(circle, lot)", "piece_span(circle, lot)", "piece_spans(circle)", "circle_span(circle)",
+                    "corner_excess(circle)", "half_tables(circle)"),
+    "holds": ("least_hold(circle)", "hold_paper(circle)", "lets_hold(circle, thing)"),
+    "mixtures": ("mixture_of(circle, telling)", "mean_over(circle, row, telling)"),
+    "rules": ("dues_at(circle, tables, telling)", "gains_at(circle, tables, telling)",
+              "payments_at(circle, tables, telling)", "rule_till(circle, tables, telling)"),
 }
 CIRCLE = ("__init__(self, house, people, owners, stretches)", "told(self)", "own(self, person)",
           "leaves_out(self, lot)", "finer(self, many)", "kept(self, lot)", "__add__(self, other)", "__len__(self)",
           "__eq__(self, other)")
 GRANT = ("__init__(self, house, telling)", "lot(self)", "worth(self)", "gate(self, wish)", "heir(self, wish)",
          "put(self, wish, worth)", "told(self)", "__eq__(self, other)")
+PARTED = ("__init__(self, circle)", "pieces(self)", "full(self)", "stays(self)", "zones(self)", "told(self)",
+          "__eq__(self, other)")
+NUMBER = ("__init__(self, house)", "signed(self)", "number(self)", "lean(self, order)", "term(self, lot)",
+          "turned(self)", "told(self)", "__eq__(self, other)")
+BOARD = ("__init__(self, counts, worths)", "span(self)", "till(self, tables)", "mixed(self, here, there)",
+         "even(self)", "told(self)", "__eq__(self, other)")
+CLASSES = ((Circle, "circleclasses", CIRCLE), (Grant, "grantclasses", GRANT), (Parted, "partclasses", PARTED),
+           (Number, "numberclasses", NUMBER), (Board, "boardclasses", BOARD))
 
 CALLS = (
     ("kinds", "is_lot", (4, (1, 2))), ("kinds", "is_order", (3, (2, 0, 1))), ("kinds", "lot_number", ((0, 3),)),
@@ -96,6 +144,43 @@ CALLS = (
     ("pieces", "ring_through", (LIMITS, 3, 0)), ("piecepapers", "lets_parting", (SEAT[0], ((0, 1),))),
     ("zones", "zones_of", (LATE,)), ("zones", "zone_lots", (LATE, (2, 4))),
     ("zonehouses", "zone_house", (LATE, (2, 4))), ("zonehouses", "zone_pieces", (LATE, (2, 4))),
+    ("leavings", "full_pieces", (LATE,)), ("leavings", "full_zones", (LATE,)), ("leavings", "stays", (LATE,)),
+    ("staypapers", "stay_paper", (PAIRS,)), ("staypapers", "lets_stay", (PAIRS, ((((0, 1), 2), ((2, 3), 0)),))),
+    ("breakpapers", "break_paper", (LATE,)), ("breakpapers", "cube_difference", (SEAT, (0, 0), (4, 4))),
+    ("breakpapers", "lets_break", (SEAT, ((0, 0), (4, 4)))), ("carving", "carved", (TRIO[0], (0, 2))),
+    ("carving", "lets_carving", (TRIO[0], (0, 2), ((1,), ()))), ("limitpieces", "binding_limits", (LIMITS,)),
+    ("limitpieces", "limit_pieces", (LIMITS,)), ("limitpieces", "limits_stay", (LIMITS, 2, (0, 1, 0, 1, 0, 1))),
+    ("sums", "signed_sum", (LIMITS,)), ("sums", "number_of", (TRIO[0],)), ("sums", "number_in", (LIMITS, (0, 1))),
+    ("takings", "taken_apart", (TRIO[0], 1)), ("takings", "piece_numbers", (LIMITS,)),
+    ("leans", "inner_least", (TRIO[0], ORDER, (0, 1))), ("leans", "outer_least", (TRIO[0], ORDER, (1, 2))),
+    ("leans", "lean_bases", (TRIO[0], ORDER)), ("leans", "spread_of", (TRIO[0], ORDER)),
+    ("leans", "lets_lean", (TRIO[0], (0, 1, 2), (0, 2))), ("limitruns", "signed_ranks", (SLOTS,)),
+    ("limitruns", "limits_signed", (LIMITS,)), ("limitruns", "limits_number", (LIMITS,)),
+    ("limitruns", "seats_number", (200, 100)), ("reductions", "twin_lots", (SLOTS,)),
+    ("reductions", "partner_lots", (LIMITS,)), ("reductions", "twins_refused", (SLOTS,)),
+    ("reductions", "partners_promised", (LIMITS,)), ("leasts", "term_of", (LIMITS, (0, 1, 2))),
+    ("leasts", "least_terms", (LIMITS,)), ("leasts", "ranks_by_terms", (3, TERMS)),
+    ("leasts", "worth_by_terms", (TERMS, TOLD)), ("termpapers", "lets_terms", (SEAT[0], TERMS)),
+    ("corners", "corner_difference", (LIMITS, TOLD, TOLD[::-1])), ("corners", "level_difference", (LIMITS, 4, 2)),
+    ("boards", "is_board", (BOARD_SEAT,)), ("boards", "is_board", ([(2, 2), [0]],)), ("boards", "places_of", (BOARD_SEAT,)),
+    ("boards", "worth_at", (BOARD_SEAT, (1, 0))), ("boards", "others_of", (BOARD_SEAT, 1)),
+    ("boardchecker", "lets_board", (BOARD_SEAT,)), ("endboards", "end_rows", (LATE, 1)), ("endboards", "board_of", (LATE,)),
+    ("endboards", "place_of", (LATE, (2, 6))), ("endboards", "telling_at", (LATE, (1, 2))),
+    ("mixed", "mixed_at", (BOARD_SEAT, (0, 1), (1, 0))), ("mixed", "uneven_place", (BOARD_SEAT,)),
+    ("tables", "is_tables", (BOARD_SEAT, [DUES])), ("tables", "dues_of", (BOARD_SEAT, DUES, (0, 1))),
+    ("tables", "till_row", (BOARD_SEAT, DUES)), ("tables", "till_span", (BOARD_SEAT, DUES)),
+    ("tablesums", "tables_plus", (BOARD_SEAT, DUES, DUES)), ("tablesums", "tables_times", (BOARD_SEAT, DUES, (1, 2))),
+    ("tablesums", "flat_tables", (((2, 2), (1, 2, 3, 4)),)), ("spanpapers", "least_span", (BOARD_SEAT,)),
+    ("spanpapers", "span_paper", (((2, 3), (5, 1, 0, 2, 7, 7)),)),
+    ("spanpapers", "lets_span", (BOARD_SEAT, (DUES, SHARES, SHARES[1:2] + SHARES[:1] * 2 + SHARES[1:2]))),
+    ("walks", "best_walk", (((2, 3), (5, 1, 0, 2, 7, 7)),)), ("walks", "lets_walk", (BOARD_SEAT, ((0, 1), (1, 0)))),
+    ("circlespans", "single_of", (LATE, (0, 1))), ("circlespans", "piece_span", (LATE, (0, 1))),
+    ("circlespans", "piece_spans", (LATE,)), ("circlespans", "circle_span", (LATE,)),
+    ("circlespans", "corner_excess", (LATE,)), ("circlespans", "half_tables", (LATE,)), ("holds", "least_hold", (LATE,)),
+    ("holds", "hold_paper", (LATE,)), ("holds", "lets_hold", (SEAT, HOLD)), ("mixtures", "mixture_of", (LATE, (1, 5))),
+    ("mixtures", "mean_over", (SEAT, SHARES, (1, 3))), ("rules", "dues_at", (SEAT, DUES, (1, 3))),
+    ("rules", "gains_at", (SEAT, DUES, (1, 3))), ("rules", "payments_at", (SEAT, DUES, (1, 3))),
+    ("rules", "rule_till", (SEAT, DUES, (1, 3))),
 )
 
 
@@ -112,7 +197,7 @@ class Interface(Case):
                 self.assertEqual(function.__module__, "someoneout." + file)
 
     def test_classes(self):
-        for made, file, calls in ((Circle, "circleclasses", CIRCLE), (Grant, "grantclasses", GRANT)):
+        for made, file, calls in CLASSES:
             self.assertEqual(made.__module__, "someoneout." + file)
             for call in calls:
                 method = vars(made)[call.split("(")[0]]
