@@ -67,8 +67,8 @@ def are_tables(counts, thing):
     """Whether any value has, for each person, a quotient for each choice of the others."""
     if not is_tuple_of(len(counts), thing):
         return False
-    persons = range(len(counts))
-    return all([are_quotients(place_count(all_but(counts, person)), thing[person]) for person in persons])
+    parts = [place_count(all_but(counts, person)) for person in range(len(counts))]
+    return all([are_quotients(many, table) for many, table in zip(parts, thing)])
 
 
 def are_weights(many, thing):

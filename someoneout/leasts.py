@@ -16,9 +16,10 @@ def term_of(house, lot):
 
 def all_terms(house):
     """The terms of all lots, by their numbers."""
+    size = size_of(house)
     terms = list(rank_table(house))
-    for wish in range(size_of(house)):
-        for number in range(len(terms)):
+    for wish in range(size):
+        for number in range(1 << size):
             if number >> wish & 1:
                 terms[number] -= terms[number - (1 << wish)]
     return terms
@@ -49,7 +50,7 @@ def ranks_by_terms(size, terms):
     for lot, term in terms:
         totals[lot_number(lot)] += term
     for wish in range(size):
-        for number in range(len(totals)):
+        for number in range(1 << size):
             if number >> wish & 1:
                 totals[number] += totals[number - (1 << wish)]
     return tuple(totals)

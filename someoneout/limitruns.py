@@ -21,11 +21,11 @@ def limits_signed(house):
     """The same for a house of limits."""
     need_limits(house)
     blocks = [((wish,), [1, -1]) for wish in range(house[1])]
-    for length, lot, cap in sorted([(len(lot), lot, cap) for lot, cap in house[2]]):
+    for _, lot, cap in sorted([(len(lot), lot, cap) for lot, cap in house[2]]):
         # No two limits cross: each block lies within the lot or beside it.
         inside = [totals for block, totals in blocks if block[0] in lot]
-        beside = [(block, totals) for block, totals in blocks if block[0] not in lot]
-        blocks = beside + [(lot, capped(product_of(inside), cap))]
+        outside = [(block, totals) for block, totals in blocks if block[0] not in lot]
+        blocks = outside + [(lot, capped(product_of(inside), cap))]
     return tuple(product_of([totals for _, totals in blocks]))
 
 
