@@ -31,15 +31,24 @@ def left_out(circle, lot):
 
 def ends_of(circle):
     """All lows and highs, ascending."""
+    return ends_by(circle[3])
+
+
+def ends_by(stretches):
+    """All lows and highs of the stretches, ascending."""
     ends = []
-    for stretch in circle[3]:
+    for stretch in stretches:
         ends.extend(list(stretch))
     return tuple(sorted(set(ends)))
 
 
 def is_telling(circle, thing):
     """Whether any value is a tuple with a worth in its stretch for each wish."""
-    stretches = circle[3]
+    return are_in(circle[3], thing)
+
+
+def are_in(stretches, thing):
+    """Whether any value is a tuple with a number in each of the stretches."""
     if not is_tuple_of(len(stretches), thing):
         return False
     return all([is_in(stretch, worth) for stretch, worth in zip(stretches, thing)])

@@ -15,7 +15,11 @@ def mixture_of(circle, telling):
 
 def mixture_at(circle, telling):
     """The mixture of what is known to be a telling."""
-    ends = ends_of(circle)
+    return mixture_by(ends_of(circle), telling)
+
+
+def mixture_by(ends, telling):
+    """The mixture of worths from the least to the greatest of these ends."""
     lows = [max([end for end in ends if end <= worth]) for worth in telling]
     highs = [min([end for end in ends if end >= worth]) for worth in telling]
     lifts = [lift_of(low, high, worth) for low, high, worth in zip(lows, highs, telling)]

@@ -1,6 +1,7 @@
 """Free lots and all that hangs on them, straight from the definitions, slowly."""
 
 from fractions import Fraction
+from functools import lru_cache
 from itertools import combinations, permutations, product
 
 
@@ -49,6 +50,7 @@ def is_free_by_words(house, lot):
     return True
 
 
+@lru_cache(maxsize=20000)
 def free_lots(house):
     return [lot for lot in lots_of(size_by_words(house)) if is_free_by_words(house, lot)]
 
@@ -75,6 +77,7 @@ def is_level(size, lots):
     return True
 
 
+@lru_cache(maxsize=20000)
 def table_by_words(house):
     """The table with the same free lots."""
     free = free_lots(house)
@@ -183,6 +186,7 @@ def is_full_by_words(circle, lot):
     return {circle[2][wish] for wish in lot} == set(range(circle[1]))
 
 
+@lru_cache(maxsize=20000)
 def full_zones_by_words(circle):
     return tuple((zone, piece) for zone in zones_by_words(circle) for piece in zone_pieces_by_words(circle, zone)
                  if is_full_by_words(circle, piece))
@@ -243,6 +247,7 @@ def quotient_by(fraction):
     return (fraction.numerator, fraction.denominator)
 
 
+@lru_cache(maxsize=20000)
 def places_by_words(counts):
     return list(product(*[range(count) for count in counts]))
 
@@ -251,6 +256,7 @@ def others_at(place, person):
     return place[:person] + place[person + 1:]
 
 
+@lru_cache(maxsize=20000)
 def choices_by_words(counts, person):
     return list(product(*[range(count) for at, count in enumerate(counts) if at != person]))
 
@@ -292,12 +298,14 @@ def choice_sums_by_words(board, person, weights):
     return sums
 
 
+@lru_cache(maxsize=20000)
 def rows_by_words(circle, person):
     """All rows of the person in end tellings, ascending."""
     own = [wish for wish, owner in enumerate(circle[2]) if owner == person]
     return sorted({tuple(telling[wish] for wish in own) for telling in end_tellings_by_words(circle)})
 
 
+@lru_cache(maxsize=20000)
 def telling_by_words(circle, place):
     """The end telling for which the place stands."""
     telling = [None] * len(circle[2])
@@ -308,6 +316,7 @@ def telling_by_words(circle, place):
     return tuple(telling)
 
 
+@lru_cache(maxsize=20000)
 def board_by_words(circle):
     counts = tuple(len(rows_by_words(circle, person)) for person in range(circle[1]))
     free = free_lots(circle[0])
@@ -328,3 +337,67 @@ def mixture_by_words(circle, telling):
         cut = (top + low) / 2
         pairs.append((tuple(t if lift >= cut else s for s, t, lift in ways), quotient_by(top - low)))
     return tuple(pairs)
+
+
+def own_by_words(circle, person):
+    return [wish for wish, owner in enumerate(circle[2]) if owner == person]
+
+
+@lru_cache(maxsize=20000)
+def pieces_by_words(house):
+    """The pieces by all rings."""
+    size = size_by_words(house)
+    return pieces_by_rings(size, rings_by_free(size, free_lots(house)))
+
+
+def within_by_words(free, telling, lot):
+    """The best worth of a lot."""
+    return max(worth_by_words(telling, part) for part in free if set(part) <= set(lot))
+
+
+def handed_by_words(circle, telling):
+    """What each pays, piece by piece, the taker getting the sum."""
+    free = free_lots(circle[0])
+    lot = granted_by_words(free, telling)
+    payments = [0] * circle[1]
+    for piece in pieces_by_words(circle[0]):
+        taker = min(set(range(circle[1])) - {circle[2][wish] for wish in piece})
+        for person in set(range(circle[1])) - {taker}:
+            own = set(own_by_words(circle, person))
+            others = worth_by_words(telling, set(lot) & set(piece) - own)
+            paid = within_by_words(free, telling, set(piece) - own) - others
+            payments[person] += paid
+            payments[taker] -= paid
+    return tuple(payments)
+
+
+def mean_by_words(circle, values, telling):
+    """The mean over the mixture of the fractions that stand for the end tellings."""
+    return sum((values[end] * fraction_of(weight) for end, weight in mixture_by_words(circle, telling)), Fraction(0))
+
+
+def pool_lots(people):
+    return sorted(lots_of(people), key=number_of_lot)
+
+
+def all_units(pool):
+    """All granted units, by trying all tuples of numbers."""
+    people = len(pool[1])
+    lots = [(lot, pool[0][number_of_lot(lot)]) for lot in lots_of(people)]
+    tops = [pool[0][2 ** person] for person in range(people)]
+    return [units for units in product(*[range(top + 1) for top in tops])
+            if all(sum(units[person] for person in lot) <= most for lot, most in lots)]
+
+
+def pool_worth_by_words(units, telling):
+    return max(sum(worth * got for worth, got in zip(telling, row)) for row in units)
+
+
+def draws_by_words(odds):
+    """All tellings that can be drawn with their chances."""
+    totals = [sum(weight for _, weight in part) for part in odds]
+    for pairs in product(*odds):
+        chance = Fraction(1)
+        for (_, weight), total in zip(pairs, totals):
+            chance *= Fraction(weight, total)
+        yield tuple(worth for worth, _ in pairs), chance

@@ -255,3 +255,99 @@ def wrong_tables(counts):
     more = (good[:-1], good + (good[0],), list(good), good[:-1] + (list(good[-1]),), good[:-1] + (good[-1] + ((1, 2),),),
             good[:-1] + (good[-1][:-1],), (((1, 2),),) + good)
     return odd + more + tuple(good[:-1] + (good[-1][:-1] + (thing,),) for thing in WRONG_QUOTIENTS)
+
+
+def shuffled(dice, things):
+    things = list(things)
+    dice.shuffle(things)
+    return tuple(things)
+
+
+def one_pieces(people):
+    """Houses in one piece of so many wishes."""
+    found = [("limits", people, ((tuple(range(people)), cap),)) for cap in range(1, people)]
+    found.append(("slots", people - 1, (tuple(range(people - 1)),) * people))
+    found.append(("web", people, tuple((at, at + 1) for at in range(people - 1)) + ((0, people - 1),)))
+    if people > 2:
+        found.append(("rows", 5, ((1, 0), (0, 1)) + tuple((1, at + 1) for at in range(people - 2))))
+        found.append(("table", 3, (0, 1, 1, 1, 1, 1, 1, 1)) if people == 3 else found[0])
+    if people == 4:
+        found.append(("limits", 4, (((0, 1, 2, 3), 2), ((0, 1), 1))))
+        found.append(("web", 4, ((0, 1), (1, 2), (0, 2), (0, 2))))
+    return found
+
+
+def single_circles(seed, many, ends=(0, 1, 3, 4, 9)):
+    """Circles whose full pieces are single, of two to five persons: a wish each, or twins, and pieces that are not full."""
+    dice = random.Random(seed)
+    for at in range(many):
+        people = dice.choice((2, 2, 3, 3, 4, 5))
+        house = dice.choice(one_pieces(people))
+        owners = shuffled(dice, range(people))
+        if at % 4 == 1:
+            more = dice.randrange(3)
+            house = dice.choice((("limits", people + more, ((tuple(range(people + more)), 1),)),
+                                 ("web", 2, ((0, 1),) * (people + more)), ("slots", 1, ((0,),) * (people + more))))
+            owners = shuffled(dice, owners + tuple(dice.randrange(people) for _ in range(more)))
+        if at % 5 == 2:
+            house = ("beside", (house, ("limits", 2, (((0, 1), 1),))))
+            owners = owners + ((0, 0) if people == 2 else (people - 1, 1))
+        if at % 5 == 3 and people == 2:
+            house = ("beside", (dice.choice(one_pieces(2)), house))
+            owners = dice.choice(((0, 1), (1, 0))) + owners
+        stretches = tuple(tuple(sorted((dice.choice(ends), dice.choice(ends)))) for _ in owners)
+        if at % 3 == 0:
+            low = dice.choice(ends)
+            stretches = ((low, low + dice.choice((0, 1, 4, 10 ** 29))),) * len(owners)
+        yield (house, people, owners, stretches)
+
+
+def random_units(dice, people):
+    """Units as [10] says: sums of the smaller one of wants and seats, and of others' units."""
+    units = [0] * 2 ** people
+    for _ in range(dice.randrange(1, 4)):
+        kind = dice.randrange(3)
+        wants = [dice.randrange(4) for _ in range(people)]
+        seats = dice.randrange(5)
+        falling = sorted((dice.randrange(3) for _ in range(people)), reverse=True)
+        for number in range(2 ** people):
+            lot = [person for person in range(people) if number >> person & 1]
+            if kind == 0:
+                units[number] += min(seats, sum(wants[person] for person in lot))
+            elif kind == 1:
+                units[number] += sum(falling[:len(lot)])
+            else:
+                units[number] += sum(wants[person] for person in lot if person < 2)
+    return tuple(units)
+
+
+def drawn_pools(seed, many, ends=(0, 1, 3, 4, 9)):
+    """Pools of two to five persons; some with one stretch for all, with stretches apart, or adding 0."""
+    dice = random.Random(seed)
+    for at in range(many):
+        people = dice.choice((2, 2, 3, 3, 4, 5))
+        units = random_units(dice, people) if at % 11 else (0,) * 2 ** people
+        stretches = tuple(tuple(sorted((dice.choice(ends), dice.choice(ends)))) for _ in range(people))
+        if at % 3 == 0:
+            low = dice.choice(ends)
+            stretches = ((low, low + dice.choice((0, 1, 4))),) * people
+        if at % 7 == 1:
+            stretches = ((0, 1),) + stretches[1:-1] + ((3, 4),)
+        yield (units, stretches)
+
+
+def drawn_odds(dice, circle, ends=False, most=64):
+    """Odds of the circle; if ends, with ends as worths alone; with one worth alone where there would be too many."""
+    every = sorted({end for stretch in circle[3] for end in stretch})
+    many = 1
+    odds = []
+    for low, high in circle[3]:
+        worths = [end for end in every if low <= end <= high]
+        if not ends:
+            worths = sorted({dice.randrange(low, high + 1) for _ in range(3)} | set(dice.sample(worths, 1)))
+        picked = sorted(dice.sample(worths, dice.randrange(1, len(worths) + 1)))
+        if many * len(picked) > most:
+            picked = picked[:1]
+        many *= len(picked)
+        odds.append(tuple((worth, dice.choice((1, 1, 2, 3, 7, 10 ** 6))) for worth in picked))
+    return tuple(odds)

@@ -9,6 +9,7 @@ from someoneout.circleclasses import Circle
 from someoneout.grantclasses import Grant
 from someoneout.numberclasses import Number
 from someoneout.partclasses import Parted
+from someoneout.ruleclasses import Rule
 from tests.support import Case, LIMITS, PAIRS, SEAT, SLOTS, TABLE, TRIO
 
 TOLD = (1, 2, 3, 4, 5, 6)
@@ -19,6 +20,9 @@ BOARD_SEAT = ((2, 2), (0, 4, 4, 4))
 DUES = (((1, 1), (3, 1)), ((1, 1), (3, 1)))
 SHARES = ((0, 1), (1, 2), (1, 2), (0, 1))
 HOLD = ((((0, 1), (4, 1)), ((0, 1), (4, 1))), ((0, 1), (0, 1), (0, 1), (1, 1)), ((0, 1), (1, 1), (1, 1), (0, 1)))
+CLAIM = (((0, 1), (4, 1), (4, 1), (4, 1)), ((0, 1), (4, 1), (4, 1), (4, 1)))
+POOL = ((0, 1, 1, 1), ((0, 4), (0, 4)))
+EVEN = (((0, 1), (4, 1)), ((0, 1), (4, 1)))
 
 INTERFACE = {
     "kinds": ("is_integer(thing)", "is_number(thing)", "is_quotient(thing)", "is_lot(size, thing)",
@@ -88,6 +92,23 @@ INTERFACE = {
     "mixtures": ("mixture_of(circle, telling)", "mean_over(circle, row, telling)"),
     "rules": ("dues_at(circle, tables, telling)", "gains_at(circle, tables, telling)",
               "payments_at(circle, tables, telling)", "rule_till(circle, tables, telling)"),
+    "rulespans": ("till_ends(circle, tables)", "worst_gains(circle, tables)", "never_short(circle, tables)",
+                  "nobody_worse(circle, tables)"),
+    "handing": ("loss_tables(circle)", "handed_row(circle, telling)", "handed_tables(circle)"),
+    "stayings": ("stay_tables(circle)",),
+    "gaps": ("gap_sum(low, high, worths)", "gap_till(circle, telling)", "gap_tables(circle)"),
+    "claims": ("is_claim(circle, thing)", "claim_of(circle, tables)", "claim_by(circle, payments)",
+               "gain_told(circle, claim, person, truth, told)", "times_all(claim, many)"),
+    "lies": ("lie_of(circle, claim)",),
+    "liechecker": ("lets_lie(circle, claim, thing)",),
+    "poolchecker": ("is_pool(thing)", "lets_pool(thing)"),
+    "pools": ("queue_pool(costs, stretches)", "desk_pool(lengths, stretches)", "wants_pool(wants, seats, stretches)"),
+    "poolgrants": ("granted_units(pool, telling)", "pool_worth(pool, telling)", "units_fit(pool, thing)"),
+    "poolboards": ("pool_board(pool)", "pool_number(pool)", "pool_stays(pool)", "pool_span(pool)",
+                   "cost_difference(costs)"),
+    "pooltables": ("pool_tables(pool)", "pool_payments(pool, tables, telling)", "pool_till(pool, tables, telling)"),
+    "odds": ("is_odds(circle, thing)", "even_odds(circle)", "chance_from(odds, wish, height)",
+             "mean_worth(circle, odds)", "odds_shares(circle, odds)"),
 }
 CIRCLE = ("__init__(self, house, people, owners, stretches)", "told(self)", "own(self, person)",
           "leaves_out(self, lot)", "finer(self, many)", "kept(self, lot)", "__add__(self, other)", "__len__(self)",
@@ -100,8 +121,10 @@ NUMBER = ("__init__(self, house)", "signed(self)", "number(self)", "lean(self, o
           "turned(self)", "told(self)", "__eq__(self, other)")
 BOARD = ("__init__(self, counts, worths)", "span(self)", "till(self, tables)", "mixed(self, here, there)",
          "even(self)", "told(self)", "__eq__(self, other)")
+RULE = ("__init__(self, circle, tables)", "dues(self, telling)", "payments(self, telling)", "till(self, telling)",
+        "gains(self, telling)", "told(self)", "__eq__(self, other)")
 CLASSES = ((Circle, "circleclasses", CIRCLE), (Grant, "grantclasses", GRANT), (Parted, "partclasses", PARTED),
-           (Number, "numberclasses", NUMBER), (Board, "boardclasses", BOARD))
+           (Number, "numberclasses", NUMBER), (Board, "boardclasses", BOARD), (Rule, "ruleclasses", RULE))
 
 CALLS = (
     ("kinds", "is_lot", (4, (1, 2))), ("kinds", "is_order", (3, (2, 0, 1))), ("kinds", "lot_number", ((0, 3),)),
@@ -180,7 +203,26 @@ CALLS = (
     ("holds", "hold_paper", (LATE,)), ("holds", "lets_hold", (SEAT, HOLD)), ("mixtures", "mixture_of", (LATE, (1, 5))),
     ("mixtures", "mean_over", (SEAT, SHARES, (1, 3))), ("rules", "dues_at", (SEAT, DUES, (1, 3))),
     ("rules", "gains_at", (SEAT, DUES, (1, 3))), ("rules", "payments_at", (SEAT, DUES, (1, 3))),
-    ("rules", "rule_till", (SEAT, DUES, (1, 3))),
+    ("rules", "rule_till", (SEAT, DUES, (1, 3))), ("rulespans", "till_ends", (SEAT, DUES)),
+    ("rulespans", "worst_gains", (SEAT, DUES)), ("rulespans", "never_short", (SEAT, DUES)),
+    ("rulespans", "nobody_worse", (SEAT, DUES)), ("handing", "loss_tables", (LATE,)),
+    ("handing", "handed_row", (PAIRS, (3, 1, 2, 4))), ("handing", "handed_tables", (PAIRS,)),
+    ("stayings", "stay_tables", (PAIRS,)), ("gaps", "gap_sum", (0, 4, (2, 1))), ("gaps", "gap_till", (TRIO, (4, 1, 2))),
+    ("gaps", "gap_tables", (LATE,)), ("claims", "is_claim", (SEAT, CLAIM)), ("claims", "is_claim", (SEAT, [CLAIM])),
+    ("claims", "claim_of", (SEAT, DUES)), ("claims", "claim_by", (SEAT, CLAIM)),
+    ("claims", "gain_told", (SEAT, CLAIM, 0, (4, 0), (1, 0))), ("claims", "times_all", (CLAIM, 3)),
+    ("lies", "lie_of", (SEAT, CLAIM)), ("liechecker", "lets_lie", (SEAT, CLAIM, (0, 0, (4, 0), (0, 0)))),
+    ("poolchecker", "is_pool", (POOL,)), ("poolchecker", "is_pool", ([[0, 1], ((0, 4),)],)),
+    ("poolchecker", "lets_pool", (POOL,)), ("pools", "queue_pool", ((3, 1), POOL[1])),
+    ("pools", "desk_pool", ((3, 1), POOL[1])), ("pools", "wants_pool", ((3, 1), 2, POOL[1])),
+    ("poolgrants", "granted_units", (POOL, (1, 3))), ("poolgrants", "pool_worth", (POOL, (1, 3))),
+    ("poolgrants", "units_fit", (POOL, (0, 1))), ("poolgrants", "units_fit", (POOL, [0, [1]])),
+    ("poolboards", "pool_board", (POOL,)), ("poolboards", "pool_number", (POOL,)), ("poolboards", "pool_stays", (POOL,)),
+    ("poolboards", "pool_span", (POOL,)), ("poolboards", "cost_difference", ((3, 1, 2),)),
+    ("pooltables", "pool_tables", (POOL,)), ("pooltables", "pool_payments", (POOL, DUES, (1, 3))),
+    ("pooltables", "pool_till", (POOL, DUES, (1, 3))), ("odds", "is_odds", (SEAT, EVEN)), ("odds", "is_odds", (SEAT, [[0]])),
+    ("odds", "even_odds", (LATE,)), ("odds", "chance_from", (EVEN, 0, 3)), ("odds", "mean_worth", (SEAT, EVEN)),
+    ("odds", "odds_shares", (SEAT, EVEN)),
 )
 
 
