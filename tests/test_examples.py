@@ -211,6 +211,27 @@ EXAMPLES = """
     >>> EVEN = (((0, 1), (4, 1)), ((0, 1), (4, 1)))
     >>> chance_from(EVEN, 0, 3), mean_worth(SEAT, EVEN)
     ((1, 2), (3, 1))
+    >>> mixed_part(SEAT, EVEN, (4, 4)), square_by_number(SEAT, EVEN)
+    ((-1, 1), (1, 1))
+    >>> lets_mean(SEAT, EVEN, ((((1, 1), (3, 1)), ((1, 1), (3, 1))), ((0, 1), (1, 2), (1, 2), (0, 1))))
+    (1, 1)
+    >>> changed_circle(SEAT, 0, "refuse")
+    (("table", 1, (0, 1)), 2, (1,), ((0, 4),))
+    >>> loss_at(SEAT, (3, 1), 0, "refuse"), worst_dice(SEAT, "refuse"), best_dice(SEAT[0], "refuse")
+    (2, ((2, 1), (0, 4)), ((1, 2), (0, 1)))
+    >>> TWO = (("limits", 2, (((0, 1), 1),)), ((0, 0, 4, 3), (1, 0, 4, 1)))
+    >>> settle_by(2, TWO[0], TWO[1], "others")
+    ((0,), (1, 0), 1)
+    >>> settle_by(2, TWO[0], TWO[1], ("promise", 1))
+    ((1,), (0, 0), 0)
+    >>> office = Office(2)
+    >>> office.house_in(TWO[0])
+    >>> office.take(0, 1, 1, 0, 4)
+    >>> office.tell(0, 1, 3)
+    >>> office.settle(0, "handed")
+    ((1,), (0, 0), 0)
+    >>> days_of(2, (("day",), ("person",), ("day",), ("person",)))
+    ((0, 0), (0, 0, 0))
 """
 
 
@@ -248,4 +269,4 @@ class Examples(Case):
                 else:
                     self.exact(eval(asked, names), eval(answer))
                     many += 1
-        self.assertEqual(many, 80)
+        self.assertEqual(many, 88)

@@ -8,6 +8,8 @@ from someoneout.boardclasses import Board
 from someoneout.circleclasses import Circle
 from someoneout.grantclasses import Grant
 from someoneout.numberclasses import Number
+from someoneout.officeasks import OfficeAsks
+from someoneout.offices import Office
 from someoneout.partclasses import Parted
 from someoneout.ruleclasses import Rule
 from tests.support import Case, LIMITS, PAIRS, SEAT, SLOTS, TABLE, TRIO
@@ -23,6 +25,8 @@ HOLD = ((((0, 1), (4, 1)), ((0, 1), (4, 1))), ((0, 1), (0, 1), (0, 1), (1, 1)), 
 CLAIM = (((0, 1), (4, 1), (4, 1), (4, 1)), ((0, 1), (4, 1), (4, 1), (4, 1)))
 POOL = ((0, 1, 1, 1), ((0, 4), (0, 4)))
 EVEN = (((0, 1), (4, 1)), ((0, 1), (4, 1)))
+LOG = (("house", SEAT[0]), ("take", 0, 1, 1, 0, 4), ("tell", 0, 1, 3), ("settle", 0, "handed"), ("day",))
+TAKERS = ((0, 0, 4, 3), (1, 0, 4, 1))
 
 INTERFACE = {
     "kinds": ("is_integer(thing)", "is_number(thing)", "is_quotient(thing)", "is_lot(size, thing)",
@@ -109,6 +113,21 @@ INTERFACE = {
     "pooltables": ("pool_tables(pool)", "pool_payments(pool, tables, telling)", "pool_till(pool, tables, telling)"),
     "odds": ("is_odds(circle, thing)", "even_odds(circle)", "chance_from(odds, wish, height)",
              "mean_worth(circle, odds)", "odds_shares(circle, odds)"),
+    "squares": ("mixed_part(circle, odds, telling)", "least_square(circle, odds)", "square_by_number(circle, odds)"),
+    "means": ("least_mean(circle, odds)", "mean_paper(circle, odds)", "lets_mean(circle, odds, thing)",
+              "pair_mean(one, other)"),
+    "healing": ("changed_circle(circle, wish, deed)", "healing_wishes(circle, deed)",
+                "joined_circle(circle, house, stretches)"),
+    "losses": ("loss_at(circle, telling, wish, deed)", "worst_loss(circle, wish, deed)",
+               "dice_loss(circle, telling, deed)", "worst_dice(circle, deed)", "best_dice(house, deed)"),
+    "officeevents": ("is_event(thing)", "is_log(thing)"),
+    "settling": ("taken_lot(takers)", "round_circle(people, house, takers)", "settle_by(people, house, takers, way)"),
+    "officereasons": ("reason_of(people, rounds, settled, event)",),
+    "replaying": ("replayed(people, log)", "cut_log(log, many)"),
+    "journals": ("days_of(people, log)", "tills_of(people, log)"),
+    "eventtexts": ("event_line(event)", "log_text(log)"),
+    "eventreadings": ("read_event(text)", "read_log(text)"),
+    "desk": ("desk_line(office, text)",),
 }
 CIRCLE = ("__init__(self, house, people, owners, stretches)", "told(self)", "own(self, person)",
           "leaves_out(self, lot)", "finer(self, many)", "kept(self, lot)", "__add__(self, other)", "__len__(self)",
@@ -123,8 +142,17 @@ BOARD = ("__init__(self, counts, worths)", "span(self)", "till(self, tables)", "
          "even(self)", "told(self)", "__eq__(self, other)")
 RULE = ("__init__(self, circle, tables)", "dues(self, telling)", "payments(self, telling)", "till(self, telling)",
         "gains(self, telling)", "told(self)", "__eq__(self, other)")
+ASKS = ("__init__(self, people)", "people_now(self)", "rounds_now(self)", "circle_in(self, number)",
+        "stays_in(self, number)", "span_in(self, number)", "granted_in(self, number)", "account(self, person)",
+        "till_now(self)", "calendar(self)")
+OFFICE = ("__init__(self, people)", "person(self)", "house_in(self, house)",
+          "take(self, number, wish, person, low, high)", "drop(self, number, wish)",
+          "narrow(self, number, wish, low, high)", "tell(self, number, wish, worth)", "settle(self, number, way)",
+          "day(self)", "go(self, event)", "barred(self, event)", "log(self)", "do_all(self, events, keep=False)",
+          "undo(self, steps=1)", "tried(self, events)", "__eq__(self, other)")
 CLASSES = ((Circle, "circleclasses", CIRCLE), (Grant, "grantclasses", GRANT), (Parted, "partclasses", PARTED),
-           (Number, "numberclasses", NUMBER), (Board, "boardclasses", BOARD), (Rule, "ruleclasses", RULE))
+           (Number, "numberclasses", NUMBER), (Board, "boardclasses", BOARD), (Rule, "ruleclasses", RULE),
+           (OfficeAsks, "officeasks", ASKS), (Office, "offices", OFFICE))
 
 CALLS = (
     ("kinds", "is_lot", (4, (1, 2))), ("kinds", "is_order", (3, (2, 0, 1))), ("kinds", "lot_number", ((0, 3),)),
@@ -222,7 +250,23 @@ CALLS = (
     ("pooltables", "pool_tables", (POOL,)), ("pooltables", "pool_payments", (POOL, DUES, (1, 3))),
     ("pooltables", "pool_till", (POOL, DUES, (1, 3))), ("odds", "is_odds", (SEAT, EVEN)), ("odds", "is_odds", (SEAT, [[0]])),
     ("odds", "even_odds", (LATE,)), ("odds", "chance_from", (EVEN, 0, 3)), ("odds", "mean_worth", (SEAT, EVEN)),
-    ("odds", "odds_shares", (SEAT, EVEN)),
+    ("odds", "odds_shares", (SEAT, EVEN)), ("squares", "mixed_part", (SEAT, EVEN, (4, 4))),
+    ("squares", "least_square", (SEAT, EVEN)), ("squares", "square_by_number", (SEAT, EVEN)),
+    ("means", "least_mean", (SEAT, EVEN)), ("means", "mean_paper", (SEAT, EVEN)),
+    ("means", "lets_mean", (SEAT, EVEN, (DUES, SHARES))), ("means", "pair_mean", EVEN),
+    ("healing", "changed_circle", (SEAT, 0, "refuse")), ("healing", "healing_wishes", (SEAT, "promise")),
+    ("healing", "joined_circle", (SEAT, ("limits", 3, (((0, 1, 2), 1),)), ((0, 4),))),
+    ("losses", "loss_at", (SEAT, (3, 1), 0, "refuse")), ("losses", "worst_loss", (SEAT, 0, "promise")),
+    ("losses", "dice_loss", (SEAT, (3, 1), "refuse")), ("losses", "worst_dice", (SEAT, "refuse")),
+    ("losses", "best_dice", (SLOTS, "promise")), ("officeevents", "is_event", (LOG[1],)),
+    ("officeevents", "is_event", (["take", [0]],)), ("officeevents", "is_log", (LOG,)), ("officeevents", "is_log", ([LOG],)),
+    ("settling", "taken_lot", (TAKERS,)), ("settling", "round_circle", (2, SEAT[0], TAKERS)),
+    ("settling", "settle_by", (2, SEAT[0], TAKERS, "others")),
+    ("officereasons", "reason_of", (2, ((SEAT[0], TAKERS),), (), ("settle", 0, "handed"))),
+    ("officereasons", "reason_of", (2, (), (), ["day", [0]])), ("journals", "days_of", (2, LOG)),
+    ("journals", "tills_of", (2, LOG)), ("replaying", "cut_log", (LOG, 2)), ("eventtexts", "event_line", (LOG[0],)),
+    ("eventtexts", "log_text", (LOG,)), ("eventreadings", "read_event", ("settle 0 refuse 2",)),
+    ("eventreadings", "read_log", ("day\nhouse limits 2 ; 0 1 : 1",)),
 )
 
 
@@ -258,5 +302,7 @@ class Interface(Case):
 
     def test_all_functions_are_called(self):
         asked = {name for _, name, _ in CALLS} | {"is_integer", "is_number", "minus", "times", "over", "less"}
+        # An office is no plain value; its tests have these.
+        asked |= {"replayed", "desk_line"}
         told = {call.split("(")[0] for calls in INTERFACE.values() for call in calls}
         self.assertEqual(asked, told)

@@ -7,7 +7,7 @@ import unittest
 
 FOLDER = pathlib.Path(__file__).resolve().parent.parent / "someoneout"
 BUILTINS = set("""len range enumerate zip min max sum abs sorted reversed int str bool list tuple dict set isinstance
-    ord repr any all divmod ValueError Exception KeyError NotImplemented""".split())
+    ord repr any all divmod super ValueError Exception KeyError NotImplemented""".split())
 METHODS = set("""append clear copy count endswith extend find get index insert isalnum isalpha isdigit islower isspace
     isupper items join keys ljust lower lstrip partition pop remove replace reverse rfind rjust rpartition rsplit rstrip
     setdefault split splitlines startswith strip update upper values zfill bit_length""".split())
