@@ -62,11 +62,9 @@ def mean_solved(circle, odds):
     weights, whole = place_weights(circle, odds)
     tied = [at for at, place in enumerate(places) if 0 not in place]
     links = [links_of(counts, places[at]) for at in tied]
-    for at, link in zip(tied, links):
-        link[at] = 1
     # What each difference adds to the shares may go both ways: its values are a rise and a fall.
     # No share falls below 0; the prices of this are the tills.
-    signs = [[link.get(at, 0) for link in links] for at in range(len(places))]
+    signs = [[1 if at == own else link.get(at, 0) for own, link in zip(tied, links)] for at in range(len(places))]
     gaps = gaps_at(board, [places[at] for at in tied])
     costs = [-gap for gap in gaps] + gaps
     rows = [[-sign for sign in row] + row for row in signs]

@@ -116,6 +116,8 @@ class Refused(Case):
         # In the other wish alone, in both, in none.
         for thing in ((4, 4), (0, 4), (4, 0)):
             self.wrong("there", (0, 0, (4, 0), thing))
+        for thing in ((4, 0), (4, 4), (0, 4)):
+            self.wrong("there", (1, 1, (0, 4), thing))
         claim = tuple((tuple((number, 1) for number in range(9))) for _ in range(2))
         self.exact(lets_lie(LATE, claim, (0, 0, (2, 4), (0, 4))), (3, 2))
         self.wrong("there", (0, 0, (4, 4), (0, 4)), LATE, claim)

@@ -7,20 +7,48 @@ from someoneout.odds import even_odds
 from tests.oracles import (choice_sums_by_words, draws_by_words, fraction_of, places_by_words, quotient_by,
                            telling_by_words, tills_by_words)
 from tests.support import (Case, EMPTY, ODD_THINGS, PAIRS, SEAT, WRONG_QUOTIENTS, drawn_circles, drawn_odds,
-                           single_circles, wrong_tables)
+                           shapes_of, single_circles, wrong_tables)
 from tests.test_odds import BENT, WRONG_DRAWS
 
 EVEN = (((0, 1), (4, 1)), ((0, 1), (4, 1)))
 TABLES = (((1, 1), (3, 1)), ((1, 1), (3, 1)))
 SHARES = ((0, 1), (1, 2), (1, 2), (0, 1))
 CHANCES = ((1, 4),) * 4
-# One person has three rows, the other one two; boards of all shapes come by such ends.
 ALL_ENDS = ((0, 1), (0, 3, 8), (0, 5, 10 ** 30), (1, 2, 5, 9), (0, 2, 3, 4, 5, 6, 7))
 
 
 def chances_by_words(circle, odds):
     chances = dict(draws_by_words(odds))
     return [chances.get(telling_by_words(circle, place), Fraction(0)) for place in places_by_words(board_of(circle)[0])]
+
+
+def factors_of(count):
+    """The prime factors of the count, the greatest one last."""
+    found = []
+    for prime in (2, 3, 5, 7, 11, 13, 17, 19, 23):
+        while count % prime == 0:
+            found.append(prime)
+            count //= prime
+    return found
+
+
+def circle_with(dice, counts):
+    """A circle of at most eleven wishes whose board has these counts, or None.
+
+    Each person has a wish with so many ends for each prime factor; further wishes with one end make up the ends.
+    """
+    wishes = [(person, factor) for person, count in enumerate(counts) for factor in factors_of(count)]
+    most = max([factor for _, factor in wishes] + [1])
+    tops = {factor for _, factor in wishes}
+    watch = [end for end in range(1, most) if end + 1 not in tops]
+    size = len(wishes) + len(watch)
+    if size > 11:
+        return None
+    ends = [0] + sorted(dice.sample(range(1, 20), most - 1))
+    owners = tuple(person for person, _ in wishes) + tuple(dice.randrange(len(counts)) for _ in watch)
+    stretches = tuple((ends[0], ends[factor - 1]) for _, factor in wishes) + tuple((ends[end],) * 2 for end in watch)
+    cap = dice.randrange(1, max(2, len(wishes)))
+    return (("limits", size, ((tuple(range(size)), cap),) if size else ()), len(counts), owners, stretches)
 
 
 def circles_with_odds(seed, many, most=24, ends=ALL_ENDS):
@@ -65,22 +93,27 @@ class Programs(Case):
         self.assertTrue(min(many) > 60 and len(shapes) > 100, (many, len(shapes)))
         self.assertTrue(max(len(places_by_words(counts)) for counts in shapes) == 24)
 
-    def test_wide_boards(self):
+    def test_all_shapes(self):
         dice = random.Random(266)
-        for counts in ((4, 6), (6, 4), (2, 3, 4), (4, 3, 2), (3, 2, 4), (2, 2, 2, 3), (2, 12), (8, 3), (3, 3, 2), (5, 4),
-                       (2, 2, 2, 2), (2, 1, 2, 3, 2)):
-            # Ends 0 to the greatest count less 1; who has so many rows has a stretch with so many ends.
-            most = max(counts) - 1
-            stretches = tuple((0, count - 1) if count > 1 else (most, most) for count in counts)
-            many = len(counts)
-            stretches = tuple((10 * low ** 3, 10 * high ** 3) for low, high in stretches)
-            house = ("limits", many + most + 1, ((tuple(range(many)), dice.randrange(1, many)),))
-            watch = tuple((10 * end ** 3, 10 * end ** 3) for end in range(most + 1))
-            circle = (house, many, tuple(range(many)) + (0,) * len(watch), stretches + watch)
+        known = set()
+        above = 0
+        shapes = shapes_of(24)
+        # Where somebody has just one row, nought is left; of these a part will do.
+        for counts in [counts for counts in shapes if 1 not in counts] + shapes[::9]:
+            circle = circle_with(dice, counts)
+            if circle is None:
+                continue
             self.assertEqual(board_of(circle)[0], counts)
-            for _ in range(3):
+            known.add(counts)
+            for odds in (even_odds(circle), drawn_odds(dice, circle, True, 256)):
+                above += self.solved(circle, odds) != (0, 1)
+        self.assertTrue(len(known) > 200 and above > 40, (len(known), above))
+        for counts in ((4, 6), (6, 4), (2, 3, 4), (4, 3, 2), (3, 2, 4), (2, 2, 2, 3), (2, 12), (8, 3), (3, 3, 2), (5, 4), (2, 11)):
+            self.assertIn(counts, known)
+        for counts in ((2, 2, 2, 3), (2, 3, 4), (4, 6), (2, 2, 6), (3, 3, 2)):
+            for _ in range(10):
+                circle = circle_with(dice, counts)
                 self.solved(circle, drawn_odds(dice, circle, True, 256))
-            self.solved(circle, even_odds(circle))
 
     def test_known(self):
         self.exact((self.solved(SEAT, EVEN), self.solved(PAIRS, even_odds(PAIRS))), ((1, 1), (0, 1)))

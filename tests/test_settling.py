@@ -72,6 +72,13 @@ class Settling(Case):
         self.exact(settle_by(2, house, takers, ("promise", 3)), ((1, 3), (0, 0), 0))
         self.exact(settle_by(2, house, takers, "others"), ((1, 4), (0, 3), 3))
 
+    def test_first_full_piece(self):
+        house = ("limits", 4, (((1, 3), 1), ((0, 2), 1)))
+        takers = ((0, 0, 4, 1), (0, 0, 4, 2), (1, 0, 4, 3), (1, 0, 4, 4))
+        self.refused(Full, {"zone": None, "lot": (0, 2)}, settle_by, 2, house, takers, "handed")
+        self.refused(Full, {"zone": None, "lot": (1, 3)}, settle_by, 2, house, takers, ("refuse", 0))
+        self.refused(Full, {"zone": None, "lot": (0, 2)}, settle_by, 2, house, takers, ("promise", 3))
+
     def test_without_a_taken_wish(self):
         for house in (TWO[0], ("web", 1, ((0, 0),)), PAIRS[0]):
             none = (None,) * size_by_words(house)
